@@ -1,0 +1,1 @@
+"""Which engine goes to which fire, so that the last one is there the soonest."""
