@@ -1,1 +1,1 @@
-"""Which engine goes to which fire, so that the last one is there the soonest."""
+"""Which engine goes to which fire, and which fires lack engines."""

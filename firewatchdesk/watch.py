@@ -3,15 +3,21 @@
 BEGINS = 0
 ENGINE = 1
 SOONEST = 2
+LEAST = 3
+CHECK = 4
+WHY = 5
 
 MOST_FIRES = 4
 MOST_NEEDED = 6
 MOST_ENGINES = 6
+MOST_MINUTES = 1000
 NO_WAY = 1001
 
 WRONG_NUMBERS = -1
 NO_ROOM = -5
 NO_RIGHT_PLAN = -6
+SENT_WITHOUT_WAY = -6
+WRONGLY_SENT = -7
 
 
 class UnknownCall(Exception):
@@ -40,12 +46,29 @@ class Watch:
 
     def soonest(self):
         plans = right_plans(self.needs, self.engines)
-        if len(plans) == 0:
-            return [NO_RIGHT_PLAN]
-        ranks = [last_and_driven(plan, self.engines) for plan in plans]
-        best = min(ranks)
-        # The plans come earliest first, so the first of the best is the earliest of them.
-        return list(best) + [ranks.count(best)] + plans[ranks.index(best)]
+        return best_of(plans, [(last_one(plan, self.engines), driven(plan, self.engines)) for plan in plans])
+
+    def least(self):
+        plans = right_plans(self.needs, self.engines)
+        return best_of(plans, [(driven(plan, self.engines), last_one(plan, self.engines)) for plan in plans])
+
+    def check(self, plan):
+        if len(plan) != len(self.engines) or has_above(plan, len(self.needs)):
+            return [WRONG_NUMBERS]
+        fault = fault_of(plan, self.needs, self.engines)
+        if len(fault) > 0:
+            return fault
+        return [last_one(plan, self.engines), driven(plan, self.engines)]
+
+    def why(self, minutes):
+        if minutes > MOST_MINUTES:
+            return [WRONG_NUMBERS]
+        near = [fires_within(ways, minutes) for ways in self.engines]
+        shorts = [short_by(group, self.needs, near) for group in range(1 << len(self.needs))]
+        most = max(shorts)
+        # The groups stand rising, so the first of those that are most short has the lowest number.
+        shortest = shorts.index(most)
+        return [most, shortest] + engines_for(shortest, near)
 
 
 def has_above(numbers, most):
@@ -82,9 +105,53 @@ def stays(place, minutes):
     return place == len(minutes)
 
 
-def last_and_driven(plan, engines):
-    taken = [minutes[place] for place, minutes in zip(plan, engines) if not stays(place, minutes)]
-    return (max(taken, default=0), sum(taken))
+def best_of(plans, ranks):
+    if len(plans) == 0:
+        return [NO_RIGHT_PLAN]
+    best = min(ranks)
+    # The plans come earliest first, so the first of the best is the earliest of them.
+    return list(best) + [ranks.count(best)] + plans[ranks.index(best)]
+
+
+def last_one(plan, engines):
+    return max(minutes_taken(plan, engines), default=0)
+
+
+def driven(plan, engines):
+    return sum(minutes_taken(plan, engines))
+
+
+def minutes_taken(plan, engines):
+    return [minutes[place] for place, minutes in zip(plan, engines) if not stays(place, minutes)]
+
+
+def fault_of(plan, needs, engines):
+    for number, minutes in enumerate(engines):
+        if not can_take(plan[number], minutes):
+            return [SENT_WITHOUT_WAY, number]
+    for fire, need in enumerate(needs):
+        sent = plan.count(fire)
+        if sent != need:
+            return [WRONGLY_SENT, fire, sent]
+    return []
+
+
+def fires_within(ways, minutes):
+    # No time that is asked for reaches NO_WAY, so a fire without a way is never among them.
+    return [fire for fire, way in enumerate(ways) if way <= minutes]
+
+
+def short_by(group, needs, near):
+    needed = sum([need for fire, need in enumerate(needs) if is_in(fire, group)])
+    return max(0, needed - len(engines_for(group, near)))
+
+
+def engines_for(group, near):
+    return [number for number, fires in enumerate(near) if any([is_in(fire, group) for fire in fires])]
+
+
+def is_in(fire, group):
+    return (group >> fire) % 2 == 1
 
 
 def answers(calls):
@@ -92,31 +159,34 @@ def answers(calls):
     answered = []
     at = 0
     while at < len(calls):
-        call = calls[at]
-        row = row_behind(calls, at) if has_row(call) else []
-        answer = answer_of(watch, call, row)
+        behind = end_of_call(calls, at)
+        answer = answer_of(watch, calls[at:behind])
         answered.append(len(answer))
         answered.extend(answer)
-        at = at + 1
-        if has_row(call):
-            at = at + 1 + len(row)
+        at = behind
     return answered
 
 
-def has_row(call):
-    return call == BEGINS or call == ENGINE
+def end_of_call(calls, at):
+    if calls[at] in (BEGINS, ENGINE, CHECK):
+        return at + 2 + calls[at + 1]
+    if calls[at] == WHY:
+        return at + 2
+    return at + 1
 
 
-def row_behind(calls, at):
-    first = at + 2
-    return calls[first:first + calls[at + 1]]
-
-
-def answer_of(watch, call, row):
-    if call == BEGINS:
-        return watch.begins(row)
-    if call == ENGINE:
-        return watch.engine(row)
-    if call == SOONEST:
+def answer_of(watch, call):
+    kind = call[0]
+    if kind == BEGINS:
+        return watch.begins(call[2:])
+    if kind == ENGINE:
+        return watch.engine(call[2:])
+    if kind == SOONEST:
         return watch.soonest()
-    raise UnknownCall(f"no call has the number {call}")
+    if kind == LEAST:
+        return watch.least()
+    if kind == CHECK:
+        return watch.check(call[2:])
+    if kind == WHY:
+        return watch.why(call[1])
+    raise UnknownCall(f"no call has the number {kind}")
